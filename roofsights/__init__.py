@@ -1,0 +1,1 @@
+"""Roofsights: houses that see one another over lower ones."""
