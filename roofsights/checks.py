@@ -1,8 +1,9 @@
-"""Which things are whole numbers, numbers of houses, lots and places; the refusals of others."""
+"""Which things are whole numbers, numbers of houses, heights, lots and places; the refusals of others."""
 
 from roofsights.errors import NoHouse, NoLot, NoNumber
 
 MOST_HOUSES = 12
+MOST_HEIGHT = 10 ** 9
 
 
 def is_whole(thing):
@@ -16,6 +17,10 @@ def is_whole_within(thing, least, most):
 
 def is_many(thing):
     return is_whole_within(thing, 1, MOST_HOUSES)
+
+
+def is_height(thing):
+    return is_whole_within(thing, 0, MOST_HEIGHT)
 
 
 def is_place(many, thing):
@@ -43,15 +48,21 @@ def check_many(many):
         raise NoNumber("many must be a whole number from 1 to 12")
 
 
-def check_lot(many, lot):
+def check_lot(many, lot, name):
     if not is_lot(many, lot):
-        raise NoLot("a lot must be a rising tuple of pairs of places, the first one less")
+        raise NoLot(f"{name} must be a rising tuple of pairs of places, the first one less")
 
 
 def check_many_and_lot(many, lot):
     # The places in a lot are limited by many, so many is looked at first.
     check_many(many)
-    check_lot(many, lot)
+    check_lot(many, lot, "lot")
+
+
+def check_many_seen_and_unseen(many, seen, unseen):
+    check_many(many)
+    check_lot(many, seen, "seen")
+    check_lot(many, unseen, "unseen")
 
 
 def check_two_houses(many, one, other):

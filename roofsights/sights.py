@@ -1,16 +1,14 @@
 """Heights and their sights; lots of sights, and what bars them."""
 
-from roofsights.checks import MOST_HOUSES, check_many_and_lot, is_whole, is_whole_within
+from roofsights.checks import MOST_HOUSES, check_many_and_lot, is_height, is_whole
 from roofsights.errors import NoHeights
-
-MOST_HEIGHT = 10 ** 9
 
 
 def are_heights(thing):
     """Tell of anything whether it is heights."""
     if not isinstance(thing, tuple) or not 1 <= len(thing) <= MOST_HOUSES:
         return False
-    if not all([is_whole_within(part, 0, MOST_HEIGHT) for part in thing]):
+    if not all([is_height(part) for part in thing]):
         return False
     return len(set(thing)) == len(thing)
 
@@ -19,13 +17,16 @@ def sights(heights):
     """Tell all pairs of houses who see one another, as a rising tuple."""
     if not are_heights(heights):
         raise NoHeights("heights must be a tuple of 1 to 12 unlike whole numbers from 0 to 10 ** 9")
-    many = len(heights)
-    return tuple([
-        (one, other)
-        for one in range(many)
-        for other in range(one + 1, many)
-        if see_one_another(heights, one, other)
-    ])
+    return sights_in_row(heights)
+
+
+def sights_in_row(row):
+    """Tell the sights of a row of unlike heights that may have no house."""
+    return tuple([(one, other) for one, other in all_pairs(len(row)) if see_one_another(row, one, other)])
+
+
+def all_pairs(many):
+    return [(one, other) for one in range(many) for other in range(one + 1, many)]
 
 
 def see_one_another(heights, one, other):

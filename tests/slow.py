@@ -14,7 +14,7 @@ def deep(thing, levels, wrap):
 
 
 # Things of every kind that may be handed in where a refusal is told of anything.
-# None of them is heights, a number of houses, a lot, a place, or what bars a lot.
+# None of them is heights, a number of houses, a lot, counts, a place, or what bars a lot.
 ODD_THINGS = (
     True, False, None, "", "1", "text", "apart", " ~", "a" * 200, -1, -10, 10 ** 39, -(10 ** 39), [], [1], [0, 1],
     [(0, 1)], [[0, 1]], [True], ["apart", 0, 1], ["text", None], [()], ("text",), (None,), (True,), (False,), ((),),
@@ -148,5 +148,83 @@ def fits_next(many, held, lower, house):
     return True
 
 
+@lru_cache(maxsize=None)
+def lots_by_growing(many):
+    """All lots that can be, rising, for rows too long to try all orders.
+
+    A house is added at the right end of each shorter lot. It sees its neighbour, and may
+    see on over it and over each next house that nobody sees over yet, as far as it goes.
+    """
+    if many == 1:
+        return [()]
+    grown = []
+    for lot in lots_by_growing(many - 1):
+        own = ()
+        for house in range(many - 2, -1, -1):
+            if not any(one < house < other for one, other in lot):
+                own += ((house, many - 1),)
+                grown.append(tuple(sorted(lot + own)))
+    return sorted(grown)
+
+
+def lots_that_fit(lots, seen, unseen):
+    held, barred = set(seen), set(unseen)
+    return [lot for lot in lots if held.issubset(lot) and barred.isdisjoint(lot)]
+
+
+def sure_of(many, lots):
+    if not lots:
+        return None
+    in_all = set(lots[0]).intersection(*lots)
+    in_some = set().union(*lots)
+    return tuple(sorted(in_all)), tuple(pair for pair in pairs_of(many) if pair not in in_some)
+
+
+def known_by_orders(many, seen, unseen):
+    """lots_with, orders_with, first_with and sure, of all orders gone through one by one."""
+    found = orders_by_lot(many)
+    lots = lots_that_fit(sorted(found), seen, unseen)
+    return len(lots), sum(len(found[lot]) for lot in lots), min(lots, default=None), sure_of(many, lots)
+
+
+def known_by_growing(many, seen, unseen):
+    """The same for rows too long to try all orders."""
+    lots = lots_that_fit(lots_by_growing(many), seen, unseen)
+    orders = orders_with_by_growing(many, set(seen), set(unseen))
+    return len(lots), orders, min(lots, default=None), sure_of(many, lots)
+
+
+def orders_with_by_growing(many, seen, unseen):
+    """How many orders have these sights, picking houses from the lowest up as above."""
+    ways = {frozenset(): 1}
+    for _ in range(many):
+        grown = {}
+        for lower, count in ways.items():
+            for house in range(many):
+                if house not in lower and may_be_next(many, seen, unseen, lower, house):
+                    key = lower | {house}
+                    grown[key] = grown.get(key, 0) + count
+        ways = grown
+    return sum(ways.values())
+
+
+def may_be_next(many, seen, unseen, lower, house):
+    rest = [other for other in range(many) if other != house and other not in lower]
+    near = [max([k for k in rest if k < house], default=None), min([k for k in rest if k > house], default=None)]
+    for other in rest:
+        pair = (min(house, other), max(house, other))
+        if pair in (unseen if other in near else seen):
+            return False
+    return True
+
+
+def counts_of(many, lot):
+    return tuple(sum(house in pair for pair in lot) for house in range(many))
+
+
 def turned_lot(many, lot):
     return tuple(sorted((many - 1 - other, many - 1 - one) for one, other in lot))
+
+
+def turned_houses(many, houses):
+    return tuple(sorted(many - 1 - house for house in houses))

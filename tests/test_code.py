@@ -1,6 +1,7 @@
 """The interface stands where the document lists it, and the code keeps to rules that a test can see."""
 
 import ast
+import builtins
 import pathlib
 import re
 import unittest
@@ -21,6 +22,17 @@ INTERFACE = {
         "how_many": ["many", "lot"], "first_order": ["many", "lot"], "highest": ["many", "lot"],
         "higher": ["many", "lot", "one", "other"], "from_ends": ["many", "lot"],
     },
+    "known": {
+        "lots_with": ["many", "seen", "unseen"], "orders_with": ["many", "seen", "unseen"],
+        "first_with": ["many", "seen", "unseen"], "sure": ["many", "seen", "unseen"],
+    },
+    "counted": {"lots_of": ["number"], "by_counts": ["counts"]},
+    "streets": {"Street": None},
+}
+
+STREET_METHODS = {
+    "__init__": ["self"], "build": ["self", "place", "height"], "pull": ["self", "house"], "back": ["self"],
+    "heights": ["self"], "sights": ["self"], "from_ends": ["self"], "__len__": ["self"], "__eq__": ["self", "other"],
 }
 
 BARRED_WORDS = re.compile(
@@ -52,6 +64,13 @@ class InterfaceTest(unittest.TestCase):
                     self.assertIsInstance(found[part], ast.ClassDef)
                 else:
                     self.assertEqual([argument.arg for argument in found[part].args.args], arguments)
+
+    def test_each_method_is_defined_in_the_class_itself(self):
+        street = defined(PACKAGE / "streets.py")["Street"]
+        found = {node.name: node for node in street.body if isinstance(node, ast.FunctionDef)}
+        for name, arguments in STREET_METHODS.items():
+            self.assertIn(name, found)
+            self.assertEqual([argument.arg for argument in found[name].args.args], arguments)
 
 
 class RulesTest(unittest.TestCase):
@@ -85,6 +104,22 @@ class RulesTest(unittest.TestCase):
                     }
                     for name in node.names:
                         self.assertIn(name.name, own, path)
+
+    def test_names_have_one_meaning(self):
+        for path in FILES:
+            tree = parsed(path)
+            imports = [node for node in tree.body if isinstance(node, ast.ImportFrom)]
+            top = [name.asname or name.name for node in imports for name in node.names]
+            top += [node.name for node in tree.body if isinstance(node, (ast.FunctionDef, ast.ClassDef))]
+            top += [target.id for node in tree.body if isinstance(node, ast.Assign) for target in node.targets]
+            self.assertEqual(len(top), len(set(top)), path)
+            inner = {node.arg for node in ast.walk(tree) if isinstance(node, ast.arg)}
+            inner |= {
+                node.id for part in tree.body if isinstance(part, (ast.FunctionDef, ast.ClassDef))
+                for node in ast.walk(part) if isinstance(node, ast.Name) and isinstance(node.ctx, ast.Store)
+            }
+            self.assertTrue(inner.isdisjoint(top), (path, inner & set(top)))
+            self.assertTrue((inner | set(top)).isdisjoint(dir(builtins)), path)
 
     def test_calls_of_known_builtins_only(self):
         for path in FILES:
